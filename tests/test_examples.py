@@ -1,0 +1,69 @@
+"""The examples of the interface, as they stand in the document."""
+
+import unittest
+
+from wearswings import errors
+
+LOADS = """
+>>> from wearswings.loads import changes, swings, turning_points
+>>> load = [0, 0, 5, 7, 3, 3, 4, 1]
+>>> [turning_points(load), swings(load), changes(load, 3, 4), changes(load, 0, 7)]
+[(0, 7, 3, 4, 1), [(0, 7), (3, 7), (3, 4), (1, 4)], 4, 1]
+"""
+
+COUNTS = """
+>>> from wearswings.counts import Count, removable, take
+>>> points = (0, 7, 3, 4, 1)
+>>> [removable(points), take(points, 2), str(Count.of(points)), Count.of(points).half_cycles]
+[(2,), ((3, 4), (0, 7, 1)), '3:4\\n0 7 1', ((0, 7), (1, 7), (3, 4), (3, 4))]
+
+>>> from wearswings.counts import Count
+>>> first, second = Count.of([0, 5]), Count.of([2, 9])
+>>> [str(Count.joined(first, second)), str(Count.joined(second, first))]
+['2:5\\n0 9', 'none\\n2 9 0 5']
+
+>>> from wearswings.counts import Count
+>>> Count.parse('1:2\\n0 1')
+raises InvalidText(row=0)
+"""
+
+CLOSED = """
+>>> from wearswings.closed import closed_cycles, closed_points, repeated
+>>> load = [2, 5, 3, 4, 0]
+>>> [closed_points(load), closed_cycles(load), repeated([0, 5], 3)]
+[(5, 3, 4, 0), ((0, 5), (3, 4)), {(0, 5): 5}]
+"""
+
+
+def outcome(rows):
+    """Runs the rows and returns what the last one gives, written as the document writes it."""
+    names = {}
+    for row in rows[:-1]:
+        exec(row, names)
+    try:
+        return repr(eval(rows[-1], names))
+    except errors.WearError as error:
+        told = ", ".join(f"{name}={value!r}" for name, value in vars(error).items())
+        return f"raises {type(error).__name__}({told})"
+
+
+class ExamplesTest(unittest.TestCase):
+    def check(self, text, number):
+        examples = text.strip().split("\n\n")
+        self.assertEqual(len(examples), number)
+        for example in examples:
+            *rows, told = example.split("\n")
+            self.assertEqual(outcome([row.removeprefix(">>> ") for row in rows]), told)
+
+    def test_loads(self):
+        self.check(LOADS, 1)
+
+    def test_counts(self):
+        self.check(COUNTS, 3)
+
+    def test_closed(self):
+        self.check(CLOSED, 1)
+
+
+if __name__ == "__main__":
+    unittest.main()

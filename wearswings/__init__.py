@@ -1,0 +1,1 @@
+"""Wearswings: which load never wears more than another."""
