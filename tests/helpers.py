@@ -110,3 +110,73 @@ def slow_closed_outcomes(points, cycles=(), seen=None):
             left = tuple(p for at, p in enumerate(points) if at not in ((k + 1) % len(points), (k + 2) % len(points)))
             found |= slow_closed_outcomes(left, tuple(sorted([*cycles, span(b, c)])), seen)
     return found
+
+
+def slow_count(points):
+    """Point 6: the cycles and the rest of turning points, taken out from the front."""
+    cycles = []
+    while places := slow_removable(points):
+        k = places[0]
+        cycles.append(span(*points[k:k + 2]))
+        points = points[:k] + points[k + 2:]
+    return tuple(sorted(cycles)), tuple(points)
+
+
+def nested(depth, value=2):
+    """Returns a value in so many lists."""
+    for _ in range(depth):
+        value = [value]
+    return value
+
+
+def any_values():
+    """Returns values of every kind, none of which is a tuple of integers or a list of places."""
+    return [
+        True,
+        False,
+        None,
+        0,
+        7,
+        -3,
+        10 ** 5000,
+        -10 ** 5000,
+        "",
+        "none",
+        "0 5",
+        "\u0665",
+        {},
+        {0: 5},
+        {"rest": (0, 5)},
+        nested(50),
+        nested(49, (0, 5)),
+        [()],
+        [[]],
+        [{}],
+        [None],
+        [""],
+        ["0"],
+        [(0,)],
+        [[0]],
+        [True],
+        [False],
+        [{"a": [(1, None)]}],
+        ((),),
+        ([],),
+        ({},),
+        (None,),
+        (True,),
+        (False,),
+        ("",),
+        ("0",),
+        ("0", "5"),
+        (0, True),
+        (True, 5),
+        (0, 5, False),
+        (0, None),
+        (None, 0),
+        (0, (5,)),
+        (0, [5]),
+        (0, {5: 5}),
+        ((0, (5,)),),
+        ([0, 5],),
+    ]

@@ -5,6 +5,7 @@ from inspect import getattr_static
 from tests.helpers import (
     LIMIT,
     holds,
+    nested,
     ranges_up_to,
     slow_changes,
     slow_outcomes,
@@ -16,13 +17,6 @@ from tests.helpers import (
 from wearswings.counts import Count, removable, take
 from wearswings.errors import CannotTake
 from wearswings.loads import changes, swings, turning_points
-
-
-def nested(depth):
-    value = 2
-    for _ in range(depth):
-        value = [value]
-    return value
 
 
 class RemovableTest(unittest.TestCase):

@@ -34,6 +34,40 @@ CLOSED = """
 [(5, 3, 4, 0), ((0, 5), (3, 4)), {(0, 5): 5}]
 """
 
+BUILDING = """
+>>> from wearswings.building import is_count, load_with, loads_with
+>>> [list(loads_with([(1, 2)], (0, 3))), is_count(((1, 2),), (0, 3, 2)), load_with([], (4,))]
+[[(0, 2, 1, 3)], True, (4,)]
+
+>>> from wearswings.building import load_with
+>>> load_with([(1, 2), (2, 9)], (0, 3))
+raises NoLoad(cycle=(2, 9))
+"""
+
+TABLES = """
+>>> from wearswings.tables import Table
+>>> table = Table.parse('0 2 5\\n1 9 7')
+>>> [table.amount(0, 9), table.amount(0, 3), table.amount(1, 3), table.wear([(0, 9), (0, 2)])]
+[7, 5, 0, 12]
+"""
+
+COMPARE = """
+>>> from wearswings.compare import is_matching, never_more, size_with_more
+>>> first, second = [(0, 2), (1, 3)], [(0, 3), (1, 2)]
+>>> [never_more(first, second), size_with_more(first, second), is_matching([(1, 2)], second, [0])]
+[False, 2, True]
+
+>>> from wearswings.compare import compared
+>>> [compared([0, 5, 0], [0, 5, 0, 1]), compared([0, 5], [1, 6]), compared([0, 5, 0], [1, 5, 1])]
+['less', 'neither', 'more']
+"""
+
+FACTORS = """
+>>> from wearswings.factors import factor
+>>> [factor([(0, 2), (1, 3)], [(0, 3), (1, 2)]), factor([(1, 2)], [(0, 3), (1, 2)]), factor([], [])]
+[(2, 1), (1, 2), (0, 1)]
+"""
+
 
 def outcome(rows):
     """Runs the rows and returns what the last one gives, written as the document writes it."""
@@ -63,6 +97,18 @@ class ExamplesTest(unittest.TestCase):
 
     def test_closed(self):
         self.check(CLOSED, 1)
+
+    def test_building(self):
+        self.check(BUILDING, 2)
+
+    def test_tables(self):
+        self.check(TABLES, 1)
+
+    def test_compare(self):
+        self.check(COMPARE, 2)
+
+    def test_factors(self):
+        self.check(FACTORS, 1)
 
 
 if __name__ == "__main__":

@@ -1,6 +1,7 @@
 """Counts: the cycles of a load and its rest."""
 
 from wearswings.errors import CannotTake, InvalidText
+from wearswings.kinds import is_number
 from wearswings.loads import contains, range_of, swings, turning_points
 from wearswings.numerals import reading_of
 
@@ -25,10 +26,7 @@ def take(points, place):
 
 
 def _is_removable(points, value):
-    # True and False equal 1 and 0, but they are no places.
-    if not isinstance(value, int) or isinstance(value, bool):
-        return False
-    return 1 <= value < len(points) - 2 and _may_be_taken(points, value)
+    return is_number(value) and 1 <= value < len(points) - 2 and _may_be_taken(points, value)
 
 
 def _may_be_taken(points, place):
@@ -48,6 +46,20 @@ def _counted(load):
             cycles.append(range_of(rest[-3], rest[-2]))
             del rest[-3:-1]
     return cycles, rest
+
+
+def are_left(points):
+    """Returns True if readings are turning points of which no two can be taken out, otherwise False."""
+    # Counting leaves points out exactly if they are no turning points or two can be taken out.
+    return _counted(points)[1] == list(points)
+
+
+def cycles_outside(cycles, rest):
+    """Returns the list of the cycles that are not contained in the range of a rest, in their order."""
+    if not rest:
+        return list(cycles)
+    whole = (min(rest), max(rest))
+    return [cycle for cycle in cycles if not contains(whole, cycle)]
 
 
 class Count:
@@ -80,9 +92,9 @@ class Count:
         points = _points_in(rows[1])
         if len(rows) > 2:
             raise InvalidText(2)
-        if not _is_rest(points):
+        if not are_left(points):
             raise InvalidText(1)
-        if not _holds(points, cycles):
+        if cycles_outside(cycles, points):
             raise InvalidText(0)
         return cls(cycles, points)
 
@@ -145,16 +157,3 @@ def _points_in(row):
     if None in points:
         raise InvalidText(1)
     return points
-
-
-def _is_rest(points):
-    # Counting leaves points out exactly if they are no turning points or two can be taken out.
-    return _counted(points)[1] == points
-
-
-def _holds(rest, cycles):
-    """Returns True if each cycle is contained in the range of the rest, otherwise False."""
-    if not rest:
-        return not cycles
-    whole = (min(rest), max(rest))
-    return all([contains(whole, cycle) for cycle in cycles])

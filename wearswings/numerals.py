@@ -1,7 +1,6 @@
 """Readings as they are written in texts."""
 
-# The greatest distance of a reading from 0.
-LIMIT = 1000000000
+from wearswings.kinds import is_reading
 
 # No reading is written with more characters than the least one.
 LONGEST = 11
@@ -22,4 +21,4 @@ def reading_of(word):
     if len(word) > LONGEST or not is_numeral(word):
         return None
     reading = int(word)
-    return reading if abs(reading) <= LIMIT else None
+    return reading if is_reading(reading) else None
