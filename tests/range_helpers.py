@@ -1,8 +1,8 @@
-"""What the tests of lists of ranges use: lists to try, and points 11 to 14 word by word, slowly."""
+"""What the tests of lists of ranges use: lists to try, and points 7 and 11 to 14 word by word, slowly."""
 
 from itertools import combinations, combinations_with_replacement, permutations
 
-from tests.helpers import LIMIT, holds
+from tests.helpers import LIMIT, holds, slow_count, slow_turning_points, span
 
 # All ranges of the readings from 0 to 3.
 SMALL_RANGES = list(combinations(range(4), 2))
@@ -83,3 +83,9 @@ def is_table_of_readings(table):
         and 0 <= entry[2] <= 10 ** 6
         for entry in table.entries
     )
+
+
+def slow_halves(load):
+    """Points 6 and 7: the half-cycles of a load."""
+    cycles, rest = slow_count(slow_turning_points(load))
+    return sorted([*cycles, *cycles, *map(span, rest, rest[1:])])

@@ -4,12 +4,13 @@ from itertools import permutations, product
 from random import Random
 from time import process_time
 
-from tests.helpers import LIMIT, any_values, nested, slow_count, slow_turning_points, small_loads, some_loads, span
+from tests.helpers import LIMIT, any_values, nested, slow_turning_points, small_loads, some_loads
 from tests.range_helpers import (
     drawn_entries,
     drawn_ranges,
     is_list_of_places,
     is_table_of_readings,
+    slow_halves,
     slow_matchings,
     slow_wear,
     small_lists,
@@ -359,12 +360,9 @@ class ComparedTest(unittest.TestCase):
             self.assertEqual(compared(first, tuple(second)), told)
 
     def test_all_small_loads(self):
-        halves = {}
-        for load in small_loads(5, 2):
-            cycles, rest = slow_count(slow_turning_points(load))
-            halves[load] = [*cycles, *cycles, *map(span, rest, rest[1:])]
+        halves = {load: slow_halves(load) for load in small_loads(5, 2)}
         for (first, one), (second, other) in product(halves.items(), repeat=2):
-            if sorted(one) == sorted(other):
+            if one == other:
                 told = "alike"
             elif slow_matchings(one, other):
                 told = "less"

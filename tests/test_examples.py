@@ -68,6 +68,37 @@ FACTORS = """
 [(2, 1), (1, 2), (0, 1)]
 """
 
+CALM = """
+>>> from wearswings.calm import calm
+>>> [calm([0, 5, 4, 5, 1], 1), calm([3, 4, 3], 1)]
+[[1, 4, 4, 4, 2], [3, 3, 3]]
+"""
+
+ORDERS = """
+>>> from wearswings.orders import best_order, wear_of
+>>> from wearswings.tables import Table
+>>> table = Table([(0, 3, 1)])
+>>> pieces = [[0, 3], [0, 3]]
+>>> [wear_of(pieces, (0, 1), table), wear_of(pieces, (0, 1), table, closed=True), best_order([], table)]
+[3, 4, ()]
+"""
+
+COUNTERS = """
+>>> from wearswings.counters import Counter
+>>> counter = Counter()
+>>> closed = [counter.add(0, 5, 2), counter.add(4), counter.add(6)]
+>>> [closed, counter.preview(0), counter.counted.cycles, counter.total]
+[[0, 0, 1], (), ((2, 5),), 5]
+"""
+
+CONSOLE = """
+>>> from wearswings.console import Console
+>>> console = Console()
+>>> kept = [console.answer('load a 0 5 0'), console.answer('load b 0 5 0 1')]
+>>> [kept, console.answer('compare a b'), console.answer('factor b a'), console.answer('count b')]
+[['ok', 'ok'], 'less', '3/2', 'none / 0 5 0 1']
+"""
+
 
 def outcome(rows):
     """Runs the rows and returns what the last one gives, written as the document writes it."""
@@ -109,6 +140,18 @@ class ExamplesTest(unittest.TestCase):
 
     def test_factors(self):
         self.check(FACTORS, 1)
+
+    def test_calm(self):
+        self.check(CALM, 1)
+
+    def test_orders(self):
+        self.check(ORDERS, 1)
+
+    def test_counters(self):
+        self.check(COUNTERS, 1)
+
+    def test_console(self):
+        self.check(CONSOLE, 1)
 
 
 if __name__ == "__main__":

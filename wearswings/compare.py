@@ -4,6 +4,7 @@ from wearswings.counts import Count
 from wearswings.errors import More
 from wearswings.kinds import is_number
 from wearswings.loads import contains
+from wearswings.ordered import place_in, put_in
 from wearswings.tables import Table
 
 
@@ -67,25 +68,19 @@ def _best_places(first, second):
     No place occurs twice, as many ranges as possible have one, and the others have None.
     """
     places = [None] * len(first)
-    lows = sorted([(low, at) for at, (low, _) in enumerate(first)])
-    highs = sorted([(high, at) for at, (_, high) in enumerate(second)])
-    free = [at for _, at in highs]
+    inner = sorted([(low, high, at) for at, (low, high) in enumerate(first)])
+    outer = sorted([(low, high, place) for place, (low, high) in enumerate(second)], reverse=True)
+    free = []
     # A range that is low enough for one of these is so for all that follow. So of those that contain
     # it the one with the lowest high is missed least, and no place has to be changed later.
-    for _, at in lows:
-        place = _first_around(first[at], second, free)
-        if place is not None:
-            places[at] = place
-            free.remove(place)
+    for low, high, at in inner:
+        while outer and outer[-1][0] <= low:
+            _, end, place = outer.pop()
+            put_in(free, (end, place))
+        found = place_in(free, (high, 0))
+        if found < len(free):
+            _, places[at] = free.pop(found)
     return places
-
-
-def _first_around(inner, ranges, places):
-    """Returns the first of the places whose range contains the inner one, or None if there is none."""
-    for place in places:
-        if contains(ranges[place], inner):
-            return place
-    return None
 
 
 def _crowd(first, second, places):

@@ -2,7 +2,7 @@
 
 from wearswings.errors import CannotTake, InvalidText
 from wearswings.kinds import is_number
-from wearswings.loads import contains, range_of, swings, turning_points
+from wearswings.loads import contains, is_left_out, range_of, swings
 from wearswings.numerals import reading_of
 
 # What a text says instead of no cycles or no points.
@@ -30,21 +30,29 @@ def _is_removable(points, value):
 
 
 def _may_be_taken(points, place):
-    inner = range_of(points[place], points[place + 1])
-    before = range_of(points[place - 1], points[place])
-    after = range_of(points[place + 1], points[place + 2])
-    return contains(before, inner) and contains(after, inner)
+    # The points go up and down by turns. So of two ranges with a point in common the greater one contains the other.
+    size = abs(points[place + 1] - points[place])
+    return abs(points[place] - points[place - 1]) >= size and abs(points[place + 2] - points[place + 1]) >= size
+
+
+def put_behind(rest, reading):
+    """Puts a reading behind a rest, so that it is that of the longer load, and returns the cycles that this closes."""
+    if is_left_out(rest, reading):
+        rest.pop()
+    rest.append(reading)
+    cycles = []
+    # Without this point no two could be taken out, so only the last four points are to be looked at.
+    while len(rest) > 3 and _may_be_taken(rest, len(rest) - 3):
+        cycles.append(range_of(rest[-3], rest[-2]))
+        del rest[-3:-1]
+    return cycles
 
 
 def _counted(load):
     """Returns the list of the cycles of a load, in the order they close, and the list of its rest."""
     cycles, rest = [], []
-    for point in turning_points(load):
-        rest.append(point)
-        # Without this point no two could be taken out, so only the last four points are to be looked at.
-        while len(rest) > 3 and _may_be_taken(rest, len(rest) - 3):
-            cycles.append(range_of(rest[-3], rest[-2]))
-            del rest[-3:-1]
+    for reading in load:
+        cycles.extend(put_behind(rest, reading))
     return cycles, rest
 
 
@@ -121,14 +129,16 @@ class Count:
         return isinstance(other, Count) and self._cycles == other._cycles and self._rest == other._rest
 
     def __str__(self):
-        return "\n".join([_cycles_row(self._cycles), _points_row(self._rest)])
+        return "\n".join([cycles_row(self._cycles), points_row(self._rest)])
 
 
-def _cycles_row(cycles):
+def cycles_row(cycles):
+    """Returns the text of cycles, in their order."""
     return " ".join([f"{low}:{high}" for low, high in cycles]) if cycles else NOTHING
 
 
-def _points_row(points):
+def points_row(points):
+    """Returns the text of points, in their order."""
     return " ".join([str(point) for point in points]) if points else NOTHING
 
 

@@ -15,12 +15,18 @@ def turning_points(load):
     """Returns the tuple of the turning points of a load."""
     points = []
     for reading in load:
-        if points and points[-1] == reading:
-            continue
-        if len(points) > 1 and _lies_between(points[-1], points[-2], reading):
+        if is_left_out(points, reading):
             points.pop()
         points.append(reading)
     return tuple(points)
+
+
+def is_left_out(points, reading):
+    """Returns True if the last of some turning points is none any more with a reading behind it."""
+    if not points:
+        return False
+    last = points[-1]
+    return last == reading or len(points) > 1 and _lies_between(last, points[-2], reading)
 
 
 def _lies_between(reading, before, after):

@@ -1,7 +1,6 @@
 """Tables: how much each range wears."""
 
 from wearswings.errors import InvalidText
-from wearswings.loads import contains
 from wearswings.numerals import reading_of
 
 # The greatest amount of an entry.
@@ -19,14 +18,14 @@ class Table:
         """Returns the table of a text. Raises InvalidText(row) if a row is not that of an entry."""
         if text == "":
             return cls([])
-        entries = [_entry_in(row) for row in text.split("\n")]
+        entries = [entry_of(row.split(" ")) for row in text.split("\n")]
         if None in entries:
             raise InvalidText(entries.index(None))
         return cls(entries)
 
     def amount(self, low, high):
         """Returns the amount of the range (low, high)."""
-        amounts = [amount for start, end, amount in self.entries if contains((low, high), (start, end))]
+        amounts = [amount for start, end, amount in self.entries if low <= start and end <= high]
         return max(amounts, default=0)
 
     def wear(self, ranges):
@@ -40,9 +39,9 @@ class Table:
         return "\n".join([f"{low} {high} {amount}" for low, high, amount in self.entries])
 
 
-def _entry_in(row):
-    """Returns the entry that a row writes, or None if it writes none."""
-    numbers = [reading_of(word) for word in row.split(" ")]
+def entry_of(words):
+    """Returns the entry that a list of words writes, or None if it writes none."""
+    numbers = [reading_of(word) for word in words]
     if len(numbers) != 3 or None in numbers:
         return None
     low, high, amount = numbers
